@@ -1,0 +1,1 @@
+"""Threadslide: boxes pushed together in one row."""
