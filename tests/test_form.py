@@ -1,6 +1,7 @@
 """The form of the package: what of point 1 and of ../shared/LANGUAGE.md can be counted."""
 
 import ast
+import builtins
 import pathlib
 import unittest
 import warnings
@@ -15,7 +16,13 @@ LIBRARY = {
                   "zip_longest"},
     "math": {"gcd", "lcm", "isqrt", "comb", "perm", "factorial"},
 }
-BARRED = {"open", "input", "print", "eval", "exec", "compile", "hash", "id", "globals", "locals", "vars"}
+# The builtins that LANGUAGE.md (L8) lets in.
+BUILTINS = set("""
+    len range enumerate zip min max sum abs sorted reversed int str bool bytes list tuple dict set frozenset isinstance
+    ord repr any all divmod pow getattr hasattr setattr iter next map type super property staticmethod classmethod
+    Exception ValueError TypeError KeyError IndexError LookupError ZeroDivisionError ArithmeticError OverflowError
+    RuntimeError NotImplementedError AttributeError StopIteration NotImplemented
+""".split())
 
 
 def package_files():
@@ -69,11 +76,19 @@ class FormTest(unittest.TestCase):
         for brought in node.names:
             self.assertIn(brought.name, LIBRARY[node.module], name)
 
-    def test_no_builtin_that_reaches_outside_is_named(self):
+    def test_no_other_builtin_is_named(self):
         for name, text in package_texts().items():
             for node in ast.walk(ast.parse(text)):
-                if isinstance(node, ast.Name):
-                    self.assertNotIn(node.id, BARRED, name)
+                if isinstance(node, ast.Name) and hasattr(builtins, node.id):
+                    self.assertIn(node.id, BUILTINS, name)
+
+    def test_no_parameter_and_no_variable_hides_a_builtin_or_an_import(self):
+        for name, text in package_texts().items():
+            nodes = list(ast.walk(ast.parse(text)))
+            brought = {alias.name for node in nodes if isinstance(node, ast.ImportFrom) for alias in node.names}
+            bound = {node.arg for node in nodes if isinstance(node, ast.arg)}
+            bound |= {node.id for node in nodes if isinstance(node, ast.Name) and isinstance(node.ctx, ast.Store)}
+            self.assertEqual(bound & (brought | set(dir(builtins))), set(), name)
 
 
 if __name__ == "__main__":
